@@ -1,0 +1,1 @@
+"""Headcounts: ballots that put all candidates in order, and the tables that come of them."""
