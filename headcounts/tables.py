@@ -1,16 +1,11 @@
 """The table of ballots."""
 
-from headcounts.checks import are_ballots, is_count_of_candidates
-from headcounts.errors import BadBallots, BadCandidates
+from headcounts.checks import need_ballots
 
 
 def counted(candidates, ballots):
     """By how many ballots each candidate is ahead of each one, in rows."""
-    # The refusals name no number: Python does not write out a very great one.
-    if not is_count_of_candidates(candidates):
-        raise BadCandidates("candidates: a whole number from 1 to 20 is needed")
-    if not are_ballots(candidates, ballots):
-        raise BadBallots("ballots: pairs of an order of all candidates and a whole number from 1 on are needed")
+    need_ballots(candidates, ballots)
     return tallied(candidates, ballots)
 
 

@@ -5,8 +5,8 @@ import unittest
 from headcounts import answers
 from headcounts.answers import Answer, Ballots, Ring, Unbeaten, Uneven
 from headcounts.tables import counted
+from tests.samples import GREAT, tables_of
 
-GREAT = 10 ** 5000
 RING_OF_THREE = [[0, 1, -1], [-1, 0, 1], [1, -1, 0]]
 FIRST_IS_AHEAD = [[0, 2, 4], [-2, 0, 6], [-4, -6, 0]]
 ALL_EVEN = [[0, 0, 0], [0, 0, 0], [0, 0, 0]]
@@ -14,17 +14,6 @@ TWENTY = [[(after > row) - (after < row) for after in range(20)] for row in rang
 TWENTY_IN_RING = [
     [1 if (after - row) % 20 == 1 else -1 if (row - after) % 20 == 1 else 0 for after in range(20)] for row in range(20)
 ]
-
-
-def tables_of(candidates, numbers):
-    """All tables of so many candidates with these numbers above the diagonal."""
-    places = list(itertools.combinations(range(candidates), 2))
-    for chosen in itertools.product(numbers, repeat=len(places)):
-        table = [[0] * candidates for row in range(candidates)]
-        for (one, other), number in zip(places, chosen):
-            table[one][other] = number
-            table[other][one] = -number
-        yield table
 
 
 class ShownCase(unittest.TestCase):

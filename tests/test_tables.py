@@ -4,17 +4,8 @@ import unittest
 
 from headcounts.errors import BadBallots, BadCandidates, CountError
 from headcounts.tables import counted
-
-GREAT = 10 ** 5000
-
-
-def by_hand(candidates, ballots):
-    """The table by the words of [2], pair by pair."""
-    def number(one, other):
-        ahead = sum(many for order, many in ballots if order.index(one) < order.index(other))
-        behind = sum(many for order, many in ballots if order.index(one) > order.index(other))
-        return ahead - behind
-    return [[number(one, other) for other in range(candidates)] for one in range(candidates)]
+from tests.samples import (GREAT, NO_LISTS, Unfriendly, WRONG_BALLOTS, WRONG_CANDIDATES, WRONG_COUNTS, WRONG_ORDERS,
+                           by_hand)
 
 
 class OrdinaryBallots(unittest.TestCase):
@@ -122,30 +113,6 @@ class WhatIsTold(unittest.TestCase):
         self.assertEqual(table, [[0, -3], [3, 0]])
 
 
-WRONG_CANDIDATES = [
-    0, -1, 21, 22, -20, GREAT, -GREAT, True, False, None, 3.0, 1.5, float("nan"), "3", "", b"3", [3], (3,), {3}, {3: 3},
-    [], (), range(3), object(), int, [[0]],
-]
-
-
-class Unfriendly:
-    """Cannot be compared, hashed, counted or shown."""
-
-    __hash__ = None
-
-    def __eq__(self, other):
-        raise RuntimeError("compared")
-
-    def __len__(self):
-        raise RuntimeError("counted")
-
-    def __iter__(self):
-        raise RuntimeError("iterated")
-
-    def __repr__(self):
-        raise RuntimeError("shown")
-
-
 class RefusedCandidates(unittest.TestCase):
 
     def test_what_is_no_whole_number_from_1_to_20(self):
@@ -178,38 +145,6 @@ class RefusedCandidates(unittest.TestCase):
             counted(Unfriendly(), [])
 
 
-WRONG_ORDERS = [
-    # too short, too long
-    [], [0], [0, 1], [1, 2], [0, 1, 2, 3], [0, 1, 2, 2], [0, 1, 2, 0],
-    # one twice
-    [0, 0, 1], [0, 1, 1], [2, 2, 2], [0, 2, 0],
-    # one beyond
-    [0, 1, 3], [3, 1, 2], [0, 1, -1], [-3, -2, -1], [1, 2, 3], [0, 1, GREAT], [0, 1, -GREAT],
-    # no numbers
-    [False, True, 2], [0, True, 2], [False, 1, 2], [0.0, 1, 2], [0, 1, 2.0], ["0", "1", "2"], [0, 1, None],
-    [[0], [1], [2]], [0, 1, [2]], [0, 1, (2,)], [0, 1, {}], [[0, 1, 2]],
-    # no list
-    (0, 1, 2), "012", b"\x00\x01\x02", range(3), {0, 1, 2}, {0: 0, 1: 1, 2: 2}, None, 3, True, iter([0, 1, 2]), object(),
-]
-
-WRONG_COUNTS = [0, -1, -GREAT, True, False, 1.0, 2.5, "1", b"1", None, [1], (1,), [], {}, {1}, object()]
-
-WRONG_BALLOTS = [
-    # no pair
-    [[0, 1, 2], 1], ([0, 1, 2],), ([0, 1, 2], 1, 1), ([0, 1, 2], 1, None), (), [], [0, 1, 2], None, 1, "ab", b"ab",
-    {0: 1}, True, object(), {"order": [0, 1, 2], "many": 1},
-    # in the other turn
-    (1, [0, 1, 2]),
-    # a pair within one
-    (([0, 1, 2], 1), 1),
-]
-
-NO_LISTS = [
-    None, 0, 1, True, False, "", "ab", b"", (), {}, set(), range(0), 1.5, object(), iter([]),
-    (([0, 1, 2], 1),), ([0, 1, 2], 1), {0: ([0, 1, 2], 1)}, iter([([0, 1, 2], 1)]),
-]
-
-
 class RefusedBallots(unittest.TestCase):
 
     def refused(self, ballots, candidates=3):
@@ -238,7 +173,8 @@ class RefusedBallots(unittest.TestCase):
 
     def test_one_wrong_ballot_among_others(self):
         good = ([2, 1, 0], 2)
-        for at, ballot in enumerate([([0, 1, 1], 1), ([0, 1, 2], 0), ([0, 1, 2], True), [[0, 1, 2], 1], ((0, 1, 2), 1)]):
+        wrong = [([0, 1, 1], 1), ([0, 1, 2], 0), ([0, 1, 2], True), [[0, 1, 2], 1], ((0, 1, 2), 1)]
+        for at, ballot in enumerate(wrong):
             for place in range(4):
                 ballots = [good, good, good]
                 ballots.insert(place, ballot)
